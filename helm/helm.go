@@ -3,6 +3,8 @@ package helm
 
 import (
 	"helm/api"
+	"helm/cases"
+	"helm/emit"
 	"helm/table"
 	"helm/token"
 )
@@ -17,7 +19,16 @@ func Print(text string) (string, api.Fault) {
 }
 
 // Compile makes an image of a table (P4).
-func Compile(text string) (string, api.Fault) { return "", api.Fault{} }
+func Compile(text string) (string, api.Fault) {
+	t, fault := table.Read(text)
+	if fault.Code == api.OK {
+		fault = cases.Find(t)
+	}
+	if fault.Code != api.OK {
+		return "", fault
+	}
+	return emit.Image(t), api.Fault{}
+}
 
 // Machine runs an image.
 type Machine struct{}

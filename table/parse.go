@@ -59,7 +59,7 @@ func (p *parser) takeVar() bool {
 }
 
 func (p *parser) takeMode(around *Mode, isDefault bool) bool {
-	m := &Mode{Default: isDefault}
+	m := &Mode{Default: isDefault, Around: around}
 	if around != nil {
 		m.Depth = around.Depth + 1
 		around.Within = append(around.Within, m)

@@ -22,7 +22,8 @@ type Var struct {
 type Mode struct {
 	Name    token.Token
 	Default bool
-	Depth   int // how many modes it stands in
+	Depth   int   // how many modes it stands in
+	Around  *Mode // the innermost of them, nil of the outermost mode
 	Rows    []Row
 	Within  []*Mode
 }
