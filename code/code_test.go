@@ -18,3 +18,16 @@ func TestAppendTwo(t *testing.T) {
 		}
 	}
 }
+
+func TestTwo(t *testing.T) {
+	for number := -32768; number < 65536; number++ {
+		bytes := AppendTwo(nil, number)
+		two := Two(bytes[0], bytes[1])
+		if two != (number+65536)%65536 {
+			t.Fatalf("Two(%v) = %d, want %d", bytes, two, number)
+		}
+		if signed := Signed(two); signed != number && number < 32768 || signed != number-65536 && number >= 32768 {
+			t.Fatalf("Signed(%d) = %d", two, signed)
+		}
+	}
+}

@@ -29,18 +29,3 @@ func Compile(text string) (string, api.Fault) {
 	}
 	return emit.Image(t), api.Fault{}
 }
-
-// Machine runs an image.
-type Machine struct{}
-
-// Load makes a machine of an image (P5, P6).
-func Load(image string) (*Machine, bool) { return nil, false }
-
-// Mode tells the leaf at which the machine is (P5).
-func (m *Machine) Mode() string { return "" }
-
-// Step takes a sample (P5).
-func (m *Machine) Step(sample []int) (string, api.Errno) { return "", api.OK }
-
-// Reset makes the machine as at first (P5).
-func (m *Machine) Reset() {}

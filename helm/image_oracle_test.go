@@ -56,66 +56,133 @@ func seeImage(image string) (seenImage, string) {
 // widths tells how many bytes belong to each instruction.
 var widths = []int{0, 1, 2, 0, 0, 0, 0, 3, 3}
 
-// wrongProgram tells why a program is not right.
+// come is an instruction that is come to with a count of truths.
+type come struct{ at, count int }
+
+// wrongProgram tells why a program is not right: it gathers all that is come to, one by one, and holds it against the document's words then.
 func (im seenImage) wrongProgram(program []byte) string {
-	const nowhere = -1
-	depth := make([]int, len(program)) // at each instruction, nowhere if it is not come to
-	isStart := make([]bool, len(program))
-	for i := range depth {
-		depth[i] = nowhere
-	}
-	for at := 0; at < len(program); at += 1 + widths[program[at]] {
-		isStart[at] = true
-		if int(program[at]) >= len(widths) || at+1+widths[program[at]] > len(program) {
+	starts := map[int]bool{}
+	end := 0
+	for end < len(program) {
+		if int(program[end]) >= len(widths) {
 			return "an instruction that is none"
 		}
+		starts[end] = true
+		end += 1 + widths[program[end]]
 	}
-	wrong := ""
-	come := func(at, count int) {
+	if end != len(program) || end == 0 {
+		return "does not end with an instruction"
+	}
+	counts := map[int]int{}
+	seen := map[come]bool{}
+	work := []come{{0, 0}}
+	for len(work) > 0 {
+		c := work[0]
+		work = work[1:]
+		count, known := counts[c.at]
 		switch {
-		case at >= len(program) || !isStart[at]:
-			wrong = "comes to what is no instruction"
-		case depth[at] != nowhere && depth[at] != count:
-			wrong = "comes to one with several counts"
-		case count > 32:
-			wrong = "too many truths"
-		default:
-			depth[at] = count
+		case seen[c]:
+			continue
+		case !starts[c.at]:
+			return "comes to what is no instruction"
+		case known && count != c.count:
+			return "comes to one with several counts"
+		case c.count > 32:
+			return "too many truths"
 		}
+		seen[c] = true
+		counts[c.at] = c.count
+		more, wrong := im.from(program, c)
+		if wrong != "" {
+			return wrong
+		}
+		work = append(work, more...)
 	}
-	come(0, 0)
-	for at := 0; at < len(program) && wrong == ""; at += 1 + widths[program[at]] {
-		behind := at + 1 + widths[program[at]]
-		takes, puts := []int{0, 0, 1, 2, 2, 1, 0, 0, 0}[program[at]], []int{0, 0, 0, 1, 1, 1, 1, 1, 1}[program[at]]
-		if depth[at] == nowhere || depth[at] < takes {
-			return "an instruction that is not come to, or with too few"
-		}
-		left := depth[at] - takes + puts
+	if len(counts) != len(starts) {
+		return "an instruction that is not come to"
+	}
+	return im.wrongNames(program, starts)
+}
+
+// from tells what is come to from an instruction.
+func (im seenImage) from(program []byte, c come) ([]come, string) {
+	instruction := program[c.at]
+	behind := c.at + 1 + widths[instruction]
+	takes := []int{0, 0, 1, 2, 2, 1, 0, 0, 0}[instruction]
+	left := c.count - takes
+	if left < 0 {
+		return nil, "too few truths"
+	}
+	switch instruction {
+	case 0, 1:
+		return nil, ""
+	case 2:
+		count := int(binary.LittleEndian.Uint16(program[c.at+1:]))
+		return []come{{behind, left}, {behind + count, left}}, ""
+	}
+	return []come{{behind, left + 1}}, ""
+}
+
+func (im seenImage) wrongNames(program []byte, starts map[int]bool) string {
+	for at := range starts {
 		switch program[at] {
-		case 0:
 		case 1:
 			if int(program[at+1]) >= len(im.names) {
 				return "no such leaf"
 			}
-		case 2:
-			come(behind+int(binary.LittleEndian.Uint16(program[at+1:])), left)
-			come(behind, left)
 		case 7, 8:
 			if int(program[at+1]) >= 2*len(im.low) {
 				return "no such number"
 			}
-			fallthrough
-		default:
-			come(behind, left)
 		}
 	}
-	return wrong
+	return ""
 }
 
-// next runs the program of a leaf.
+// wrongImage tells why nothing is to be loaded of an image.
+func wrongImage(image string) (seenImage, string) {
+	im, wrong := seeImage(image)
+	if wrong != "" {
+		return im, wrong
+	}
+	if len(image) > 60000 || len(im.low) > 3 || len(im.names) > 12 || slices.ContainsFunc(im.names, func(name string) bool { return len(name) > 8 }) {
+		return im, "beyond a limit"
+	}
+	if im.first >= len(im.names) {
+		return im, "no such first leaf"
+	}
+	for _, program := range im.programs {
+		if wrong := im.wrongProgram(program); wrong != "" {
+			return im, wrong
+		}
+	}
+	return im, ""
+}
+
+// lay lays an image out.
+func (im seenImage) lay() string {
+	body := append([]byte("HELM1"), byte(len(im.low)))
+	for i := range im.low {
+		body, _ = binary.Append(body, binary.LittleEndian, []int16{int16(im.low[i]), int16(im.high[i])})
+	}
+	body = append(body, byte(len(im.names)), byte(im.first))
+	for i, name := range im.names {
+		body = append(append(body, byte(len(name))), name...)
+		body = binary.LittleEndian.AppendUint16(body, uint16(len(im.programs[i])))
+		body = append(body, im.programs[i]...)
+	}
+	return summed(string(body))
+}
+
+// next runs the program of a leaf, in an image whose names are not the same.
 func (im seenImage) next(leaf string, before, now []int) string {
+	return im.names[im.nextNumber(slices.Index(im.names, leaf), before, now)]
+}
+
+// nextNumber runs the program of a leaf.
+func (im seenImage) nextNumber(leaf int, before, now []int) int {
 	numbers := append(slices.Clone(before), now...)
-	program := im.programs[slices.Index(im.names, leaf)]
+	program := im.programs[leaf]
 	var truths []bool
 	take := func() bool {
 		last := truths[len(truths)-1]
@@ -129,7 +196,7 @@ func (im seenImage) next(leaf string, before, now []int) string {
 		case 0:
 			return leaf
 		case 1:
-			return im.names[what[0]]
+			return int(what[0])
 		case 2:
 			if !take() {
 				at += int(binary.LittleEndian.Uint16(what))

@@ -1,4 +1,4 @@
-// Package image lays out the bytes of an image.
+// Package image lays out the bytes of an image, and reads them.
 package image
 
 import "helm/code"
@@ -36,6 +36,11 @@ func Encode(im Image) string {
 		b = code.AppendTwo(b, len(leaf.Program))
 		b = append(b, leaf.Program...)
 	}
-	sum := Sum(b)
-	return string(append(b, byte(sum), byte(sum>>8), byte(sum>>16), byte(sum>>24)))
+	return string(append(b, sumBytes(b)...))
+}
+
+// sumBytes is the sum of an image's other bytes, as it stands behind them.
+func sumBytes(body []byte) []byte {
+	sum := Sum(body)
+	return []byte{byte(sum), byte(sum >> 8), byte(sum >> 16), byte(sum >> 24)}
 }

@@ -1,0 +1,71 @@
+package code
+
+import (
+	"slices"
+	"testing"
+)
+
+func TestActionsAreWhatTheDocumentSays(t *testing.T) {
+	want := [][]int{{0, 0, 0}, {1, 0, 0}, {2, 1, 0}, {0, 2, 1}, {0, 2, 1}, {0, 1, 1}, {0, 0, 1}, {3, 0, 1}, {3, 0, 1}}
+	for b, a := range actions {
+		if got := []int{a.width, a.takes, a.puts}; !slices.Equal(got, want[b]) || a.ends != (b < 2) || a.do == nil {
+			t.Errorf("instruction %d: %v, ends %v, want %v", b, got, a.ends, want[b])
+		}
+	}
+	if len(actions) != len(want) {
+		t.Errorf("%d instructions", len(actions))
+	}
+}
+
+func TestIsRight(t *testing.T) {
+	for _, c := range []struct {
+		program         []byte
+		leaves, numbers int
+		want            bool
+	}{
+		{nil, 1, 0, false},
+		{[]byte{Halt}, 1, 0, true},
+		{[]byte{Goes, 2}, 3, 0, true},
+		{[]byte{Goes, 2}, 2, 9, false},
+		{[]byte{Less, 1, 0, 0, Halt}, 1, 2, true},
+		{[]byte{Same, 2, 0, 0, Halt}, 9, 2, false},
+		{[]byte{Yes, Skip, 1, 0, Halt, Halt}, 1, 0, true},
+		{[]byte{Yes, Skip, 2, 0, Halt, Halt}, 1, 0, false},
+		{[]byte{Yes, Skip, 0, 1, Halt, Halt}, 1, 0, false},
+		{[]byte{Yes, Skip, 1, 0, Yes, Halt}, 1, 0, false},
+		{[]byte{Skip, 0, 0, Halt}, 1, 0, false},
+		{[]byte{Yes, Both, Halt}, 1, 0, false},
+		{[]byte{Halt, Halt}, 1, 0, false},
+		{[]byte{Halt, 9}, 1, 0, false},
+		{[]byte{Goes}, 1, 0, false},
+		{append(slices.Repeat([]byte{Yes}, 32), Halt), 1, 0, true},
+		{append(slices.Repeat([]byte{Yes}, 33), Halt), 1, 0, false},
+	} {
+		program := slices.Clone(c.program)
+		if got := IsRight(program, c.leaves, c.numbers); got != c.want || !slices.Equal(program, c.program) {
+			t.Errorf("IsRight(%v, %d, %d) = %v", c.program, c.leaves, c.numbers, got)
+		}
+	}
+}
+
+func TestRun(t *testing.T) {
+	for _, c := range []struct {
+		program []byte
+		want    int
+	}{
+		{[]byte{Halt}, 4},
+		{[]byte{Goes, 7}, 7},
+		{[]byte{Yes, Skip, 2, 0, Goes, 1, Goes, 2}, 1},
+		{[]byte{Yes, Turn, Skip, 2, 0, Goes, 1, Goes, 2}, 2},
+		{[]byte{Less, 0, 0xfe, 0xff, Skip, 2, 0, Goes, 1, Goes, 2}, 1},
+		{[]byte{Less, 0, 0xfd, 0xff, Skip, 2, 0, Goes, 1, Goes, 2}, 2},
+		{[]byte{Same, 1, 0x2c, 0x01, Skip, 2, 0, Goes, 1, Goes, 2}, 1},
+		{[]byte{Same, 1, 0x2c, 0x02, Skip, 2, 0, Goes, 1, Goes, 2}, 2},
+		{[]byte{Same, 1, 0x2c, 0x01, Same, 0, 0, 0, Both, Skip, 2, 0, Goes, 1, Goes, 2}, 2},
+		{[]byte{Same, 1, 0x2c, 0x01, Same, 0, 0, 0, Some, Skip, 2, 0, Goes, 1, Goes, 2}, 1},
+	} {
+		if got := Run(c.program, []int{-3, 300}, 4); got != c.want {
+			t.Errorf("Run(%v) = %d, want %d", c.program, got, c.want)
+		}
+	}
+}
