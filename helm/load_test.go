@@ -104,9 +104,9 @@ func TestLoadTakesRightPrograms(t *testing.T) {
 	}
 }
 
-// TestLoadRefusesOtherPrograms: by what is wrong with them, as the second reader tells it.
-func TestLoadRefusesOtherPrograms(t *testing.T) {
-	for wrong, programs := range map[string][]string{
+// wrongPrograms are programs by what is wrong with them, in an image with three leaves and two variables.
+func wrongPrograms() map[string][]string {
+	return map[string][]string{
 		"an instruction that is none": {"9", "10", "255", "HALT, 9", "YES, 9", "YES, SKIP 1, 9, HALT"},
 		"does not end with an instruction": {"", "GOES", "SKIP", "YES, SKIP", "YES, SKIP, 0", "LESS", "LESS, 0", "LESS, 0, 0", "SAME", "SAME, 0, 0",
 			"LESS 0 0, SKIP 1, HALT, GOES", "LESS 0 0, SKIP 1, HALT, SKIP, 0", "HALT, GOES"},
@@ -121,7 +121,12 @@ func TestLoadRefusesOtherPrograms(t *testing.T) {
 			"YES, SKIP 0, SKIP 0, HALT", "YES, YES, BOTH, BOTH, HALT", "YES, SKIP 1, HALT, TURN, HALT", "YES, SKIP 1, HALT, YES, SOME, HALT"},
 		"comes to one with several counts": {"YES, SKIP 1, YES, HALT", "YES, YES, SKIP 3, SKIP 0, HALT", "LESS 0 0, SKIP 4, SAME 0 0, HALT", "YES, YES, YES, SKIP 1, BOTH, HALT", "YES, SKIP 2, YES, YES, HALT"},
 		"too many truths":                  {strings.Repeat("YES,", 33) + "HALT"},
-	} {
+	}
+}
+
+// TestLoadRefusesOtherPrograms: by what is wrong with them, as the second reader tells it.
+func TestLoadRefusesOtherPrograms(t *testing.T) {
+	for wrong, programs := range wrongPrograms() {
 		for _, text := range programs {
 			program := assemble(text)
 			if got := small(nil).wrongProgram(program); got != wrong {
