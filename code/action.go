@@ -1,27 +1,18 @@
 package code
 
-// action is what there is to know of an instruction.
-type action struct {
-	width int // how many bytes belong to it
-	takes int // how many truths it takes
-	puts  int // how many truths it puts
-	ends  bool
-	do    func(*run)
-}
-
-// actions has the instructions by their bytes: to check a program and to run it is to look them up here.
-var actions [Same + 1]action
+// actions has what the instructions do, by their bytes: to run a program is to look them up here.
+var actions [Same + 1]func(*run)
 
 func init() {
-	actions[Halt] = action{ends: true, do: halt}
-	actions[Goes] = action{width: 1, ends: true, do: goes}
-	actions[Skip] = action{width: 2, takes: 1, do: skip}
-	actions[Both] = action{takes: 2, puts: 1, do: both}
-	actions[Some] = action{takes: 2, puts: 1, do: some}
-	actions[Turn] = action{takes: 1, puts: 1, do: turn}
-	actions[Yes] = action{puts: 1, do: yes}
-	actions[Less] = action{width: 3, puts: 1, do: less}
-	actions[Same] = action{width: 3, puts: 1, do: same}
+	actions[Halt] = halt
+	actions[Goes] = goes
+	actions[Skip] = skip
+	actions[Both] = both
+	actions[Some] = some
+	actions[Turn] = turn
+	actions[Yes] = yes
+	actions[Less] = less
+	actions[Same] = same
 }
 
 func halt(r *run) {

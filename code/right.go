@@ -27,20 +27,20 @@ func IsRight(program []byte, leaves, numbers int) bool {
 // goOver comes to all that is come to from an instruction, if it may stand where it stands, and tells the place behind it.
 func (f *flow) goOver(at int) (int, bool) {
 	b := f.program[at]
+	s, isKnown := shapeOf(b)
 	count, isAwaited := f.awaited[at]
-	if int(b) >= len(actions) || !isAwaited {
+	if !isKnown || !isAwaited {
 		return 0, false
 	}
 	delete(f.awaited, at)
-	a := actions[b]
-	behind := at + 1 + a.width
-	if behind > len(f.program) || count < a.takes || !f.isNamed(at) {
+	behind := at + 1 + s.width
+	if behind > len(f.program) || count < s.takes || !f.isNamed(at) {
 		return 0, false
 	}
-	if a.ends {
+	if s.ends {
 		return behind, true
 	}
-	left := count - a.takes + a.puts
+	left := count - s.takes + s.puts
 	if b == Skip && !f.come(behind+Two(f.program[at+1], f.program[at+2]), left) {
 		return 0, false
 	}

@@ -5,18 +5,6 @@ import (
 	"testing"
 )
 
-func TestActionsAreWhatTheDocumentSays(t *testing.T) {
-	want := [][]int{{0, 0, 0}, {1, 0, 0}, {2, 1, 0}, {0, 2, 1}, {0, 2, 1}, {0, 1, 1}, {0, 0, 1}, {3, 0, 1}, {3, 0, 1}}
-	for b, a := range actions {
-		if got := []int{a.width, a.takes, a.puts}; !slices.Equal(got, want[b]) || a.ends != (b < 2) || a.do == nil {
-			t.Errorf("instruction %d: %v, ends %v, want %v", b, got, a.ends, want[b])
-		}
-	}
-	if len(actions) != len(want) {
-		t.Errorf("%d instructions", len(actions))
-	}
-}
-
 func TestIsRight(t *testing.T) {
 	for _, c := range []struct {
 		program         []byte

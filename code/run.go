@@ -14,7 +14,7 @@ type run struct {
 func Run(program []byte, numbers []int, leaf int) int {
 	r := run{program: program, numbers: numbers, leaf: leaf}
 	for !r.ended {
-		actions[r.next()].do(&r)
+		actions[r.next()](&r)
 	}
 	return r.leaf
 }
