@@ -1,6 +1,6 @@
 package code
 
-// actions has what the instructions do, by their bytes: to run a program is to look them up here.
+// actions has what the instructions do, by their bytes: RunByTable looks them up here.
 var actions [Same + 1]func(*run)
 
 func init() {
@@ -13,6 +13,30 @@ func init() {
 	actions[Yes] = yes
 	actions[Less] = less
 	actions[Same] = same
+}
+
+// act does an instruction of a program that is right. It is a function beside the table, so that where a machine goes hangs on no variable.
+func act(b byte, r *run) {
+	switch b {
+	case Halt:
+		halt(r)
+	case Goes:
+		goes(r)
+	case Skip:
+		skip(r)
+	case Both:
+		both(r)
+	case Some:
+		some(r)
+	case Turn:
+		turn(r)
+	case Yes:
+		yes(r)
+	case Less:
+		less(r)
+	case Same:
+		same(r)
+	}
 }
 
 func halt(r *run) {

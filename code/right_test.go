@@ -35,25 +35,3 @@ func TestIsRight(t *testing.T) {
 		}
 	}
 }
-
-func TestRun(t *testing.T) {
-	for _, c := range []struct {
-		program []byte
-		want    int
-	}{
-		{[]byte{Halt}, 4},
-		{[]byte{Goes, 7}, 7},
-		{[]byte{Yes, Skip, 2, 0, Goes, 1, Goes, 2}, 1},
-		{[]byte{Yes, Turn, Skip, 2, 0, Goes, 1, Goes, 2}, 2},
-		{[]byte{Less, 0, 0xfe, 0xff, Skip, 2, 0, Goes, 1, Goes, 2}, 1},
-		{[]byte{Less, 0, 0xfd, 0xff, Skip, 2, 0, Goes, 1, Goes, 2}, 2},
-		{[]byte{Same, 1, 0x2c, 0x01, Skip, 2, 0, Goes, 1, Goes, 2}, 1},
-		{[]byte{Same, 1, 0x2c, 0x02, Skip, 2, 0, Goes, 1, Goes, 2}, 2},
-		{[]byte{Same, 1, 0x2c, 0x01, Same, 0, 0, 0, Both, Skip, 2, 0, Goes, 1, Goes, 2}, 2},
-		{[]byte{Same, 1, 0x2c, 0x01, Same, 0, 0, 0, Some, Skip, 2, 0, Goes, 1, Goes, 2}, 1},
-	} {
-		if got := Run(c.program, []int{-3, 300}, 4); got != c.want {
-			t.Errorf("Run(%v) = %d, want %d", c.program, got, c.want)
-		}
-	}
-}

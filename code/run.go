@@ -14,6 +14,15 @@ type run struct {
 func Run(program []byte, numbers []int, leaf int) int {
 	r := run{program: program, numbers: numbers, leaf: leaf}
 	for !r.ended {
+		act(r.next(), &r)
+	}
+	return r.leaf
+}
+
+// RunByTable does as Run does, but looks up in the table what the instructions do: what stands there can be held against what machines do.
+func RunByTable(program []byte, numbers []int, leaf int) int {
+	r := run{program: program, numbers: numbers, leaf: leaf}
+	for !r.ended {
 		actions[r.next()](&r)
 	}
 	return r.leaf

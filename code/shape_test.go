@@ -15,7 +15,7 @@ func TestShapesAreWhatTheDocumentSays(t *testing.T) {
 	}
 }
 
-// TestActionsDoAsTheirShapesSay: what the table has is what the check believes of it.
+// TestActionsDoAsTheirShapesSay: what the table has is what the check believes of it, and what a machine does.
 func TestActionsDoAsTheirShapesSay(t *testing.T) {
 	for b, do := range actions {
 		s, isKnown := shapeOf(byte(b))
@@ -25,7 +25,13 @@ func TestActionsDoAsTheirShapesSay(t *testing.T) {
 		for pattern := range 4 {
 			truths := []bool{true, false, pattern&2 != 0, pattern&1 != 0}
 			r := run{program: make([]byte, 4), at: 1, numbers: []int{pattern - 1}, truths: slices.Clone(truths), leaf: 7}
+			other := r
+			other.truths = slices.Clone(truths)
 			do(&r)
+			act(byte(b), &other)
+			if !isSameRun(r, other) {
+				t.Errorf("instruction %d: the table makes %+v, the function %+v", b, r, other)
+			}
 			if kept := 4 - s.takes; len(r.truths) != kept+s.puts || !slices.Equal(r.truths[:kept], truths[:kept]) {
 				t.Errorf("instruction %d: of %v it makes %v", b, truths, r.truths)
 			}
@@ -37,4 +43,8 @@ func TestActionsDoAsTheirShapesSay(t *testing.T) {
 	if _, isKnown := shapeOf(byte(len(actions))); isKnown {
 		t.Errorf("instruction %d has no action", len(actions))
 	}
+}
+
+func isSameRun(a, b run) bool {
+	return a.at == b.at && a.leaf == b.leaf && a.ended == b.ended && slices.Equal(a.truths, b.truths)
 }
